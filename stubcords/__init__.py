@@ -1,0 +1,1 @@
+"""Stubcords: candles that light one another by cords, and what of them falls."""

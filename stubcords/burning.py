@@ -1,8 +1,10 @@
 """The burning of a house: when its candles are set, when its cords catch."""
 
+from heapq import heapify, heappop, heappush
+
 from stubcords.errors import NoBeat
 from stubcords.houses import need_candle, need_lights
-from stubcords.wholes import is_from_to, is_whole
+from stubcords.wholes import is_from_to, is_whole, is_whole_or_none
 
 LAST_BEAT = 1000000000000
 # Ahead of all cords' numbers, so that among embers as low a light comes first.
@@ -12,26 +14,43 @@ BY_LIGHT = -1
 def burning(house, lights):
     """Tell the burning (tales, catches) of a house with these lights."""
     need_lights(house, lights)
-    catches = [None] * len(house[1])
-    tales = tales_of(house, lights, catches)
-    due = next_catch(house, tales, catches)
-    while due is not None:
-        beat, cord = due
-        catches[cord] = beat
-        tales = tales_of(house, lights, catches)
-        due = next_catch(house, tales, catches)
-    return tales, tuple(catches)
+    tales = burnt_tales(house, lights)
+    return tales, catches_of(house, tales)
 
 
-def next_catch(house, tales, catches):
-    """Find the first (beat, cord) of the cords that have no beat yet, or None."""
-    # An ember takes one beat at the least, so nothing that is still unknown
-    # comes up to this first beat: no later ember takes this catch back.
-    due = []
-    for cord, beat in enumerate(catches_of(house, tales)):
-        if catches[cord] is None and beat is not None:
-            due.append((beat, cord))
-    return min(due, default=None)
+def burnt_tales(house, lights):
+    """Make each candle's tale, of a house and lights that are not refused."""
+    tops = house[0]
+    tales = [()] * len(tops)
+    coming = [(beat, candle, tops[candle], BY_LIGHT) for candle, beat in lights]
+    heapify(coming)
+    while coming:
+        beat, candle, height, rank = heappop(coming)
+        tale = with_ember(tales[candle], beat, height, rank)
+        if tale != tales[candle] and is_sent(house, tales, beat, rank):
+            tales[candle] = tale
+            for ember in embers_from(house, candle, beat, height):
+                heappush(coming, ember)
+    return tuple(tales)
+
+
+def embers_from(house, candle, beat, height):
+    """List the embers (beat, candle, height, rank) of a flame of this height, were it never set."""
+    embers = []
+    for number, (one, at, other, to, long) in enumerate(house[1]):
+        if one == candle and at <= height:
+            embers.append((beat + height - at + long, other, to, number))
+    return embers
+
+
+def is_sent(house, tales, beat, rank):
+    """Tell whether an ember that is due in this beat was sent: its cord did catch."""
+    if rank == BY_LIGHT:
+        return True
+    one, at, other, to, long = house[1][rank]
+    # An ember takes one beat at the least, so the tale of the candle one is
+    # known by now up to the beat in which the cord would have caught.
+    return flame_in(tales[one], beat - long) == at
 
 
 def tales_of(house, lights, catches):
@@ -52,13 +71,19 @@ def embers_to(house, lights, catches, candle):
 
 def tale_of(embers):
     """Make the tale of a whole candle to which these embers come."""
-    tale = []
+    tale = ()
     # Sorted, the lowest of one beat comes first; the others then find a flame
     # that is as low already.
     for beat, height, rank in sorted(embers):
-        if not tale or flame_in(tale, beat) > height:
-            tale.append((beat, height, None if rank == BY_LIGHT else rank))
-    return tuple(tale)
+        tale = with_ember(tale, beat, height, rank)
+    return tale
+
+
+def with_ember(tale, beat, height, rank):
+    """Tell the tale as it is once an ember came to its candle."""
+    if tale and flame_in(tale, beat) <= height:
+        return tale
+    return (*tale, (beat, height, None if rank == BY_LIGHT else rank))
 
 
 def flame_in(tale, beat):
@@ -119,27 +144,20 @@ def is_setting(thing):
     return is_whole(beat) and is_whole(height) and is_whole_or_none(by)
 
 
-def is_whole_or_none(thing):
-    """Tell whether this is a whole number or None."""
-    return thing is None or is_whole(thing)
-
-
 def height_at(house, lights, candle, beat):
     """Tell the height of a candle's flame in a beat, 0 where it has none."""
     need_lights(house, lights)
     need_candle(house, candle)
     if not is_from_to(beat, 0, LAST_BEAT):
         raise NoBeat("a beat is a whole number from 0 to 1,000,000,000,000")
-    tales, catches = burning(house, lights)
-    return flame_in(tales[candle], beat)
+    return flame_in(burnt_tales(house, lights)[candle], beat)
 
 
 def out_at(house, lights, candle):
     """Tell the beat in which a candle is out, None where it is never lit."""
     need_lights(house, lights)
     need_candle(house, candle)
-    tales, catches = burning(house, lights)
-    return out_of(tales[candle])
+    return out_of(burnt_tales(house, lights)[candle])
 
 
 def out_of(tale):
@@ -154,7 +172,7 @@ def causes(house, lights, candle):
     """Tell the light's candle, then the cords, by which a candle is lit first."""
     need_lights(house, lights)
     need_candle(house, candle)
-    tales, catches = burning(house, lights)
+    tales = burnt_tales(house, lights)
     if not tales[candle]:
         return None
     numbers = []

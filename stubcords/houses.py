@@ -1,7 +1,7 @@
 """Houses, the lights in them, and the refusal of what is neither."""
 
 from stubcords.errors import NoCandle, NoHouse, NoLights
-from stubcords.wholes import is_from_to
+from stubcords.wholes import are_rising, is_from_to
 
 MOST_CANDLES = 7
 MOST_CORDS = 10
@@ -57,8 +57,7 @@ def are_lights(house, thing):
     if not all([is_light(house, light) for light in thing]):
         return False
     # Each candle stands once at the most, so the candles alone must rise.
-    candles = [candle for candle, beat in thing]
-    return all([low < high for low, high in zip(candles, candles[1:])])
+    return are_rising([candle for candle, beat in thing])
 
 
 def is_light(house, thing):

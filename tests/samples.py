@@ -1,5 +1,6 @@
 """Houses, lights and other things that several tests hand in."""
 
+import sys
 from random import Random
 
 EIGHT_DEEP = [[[[[[[[]]]]]]]]
@@ -18,6 +19,10 @@ ANYTHING = (
 
 HOUSE = ((3, 2), ((0, 2, 1, 1, 4),))
 LIGHTS = ((0, 0),)
+
+# A top house of seven cords with lights of it: round about, to itself, side by side.
+TOP = (((4, 3, 2, 5), ((0, 3, 1, 3, 2), (0, 2, 1, 3, 1), (1, 1, 2, 2, 5), (1, 2, 2, 2, 7),
+                       (2, 1, 1, 3, 1), (3, 4, 2, 2, 9), (3, 1, 3, 5, 1))), ((0, 2), (3, 1)))
 
 # Each a house with lights of it; together they show each kind of event of [20].
 SAMPLES = (
@@ -64,14 +69,51 @@ def variants(thing):
                 yield thing[:at] + (other,) + thing[at:]
 
 
-def drawn(many, seed):
+def topped(house):
+    """The house with each cord ending at the top of its candle other [70]."""
+    tops, cords = house
+    return tops, tuple((one, at, other, tops[other], long) for one, at, other, to, long in cords)
+
+
+def all_rising(many):
+    """All rising tuples of numbers below many, as Python sorts them."""
+    rows = [()]
+    for number in reversed(range(many)):
+        rows += [(number,) + row for row in rows]
+    return sorted(rows)
+
+
+def fewest_first(many):
+    """All rising tuples of numbers below many, the fewest first, of as few the least."""
+    return sorted(all_rising(many), key=lambda row: (len(row), row))
+
+
+def lines_run(function, *values):
+    """Count the lines that Python runs to answer."""
+    lines = []
+
+    def trace(frame, event, argument):
+        if event == "line":
+            lines.append(frame.f_lineno)
+        return trace
+
+    kept = sys.gettrace()
+    sys.settrace(trace)
+    try:
+        function(*values)
+    finally:
+        sys.settrace(kept)
+    return len(lines)
+
+
+def drawn(many, seed, candles=7, most=10):
     """Yield so many small houses with lights, always the same ones for a seed."""
     dice = Random(seed)
     for _ in range(many):
-        tops = tuple(dice.randint(1, 9) for _ in range(dice.randint(1, 7)))
+        tops = tuple(dice.randint(1, 9) for _ in range(dice.randint(1, candles)))
         hooks = [candle for candle, top in enumerate(tops) if top > 1]
         cords = []
-        for _ in range(dice.randint(0, 10) if hooks else 0):
+        for _ in range(dice.randint(0, most) if hooks else 0):
             one = dice.choice(hooks)
             other = dice.randrange(len(tops))
             cords.append((one, dice.randint(1, tops[one] - 1),

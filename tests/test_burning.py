@@ -1,6 +1,5 @@
 """Points 20 to 23: the burning, and what is told of it."""
 
-import sys
 import unittest
 
 import samples
@@ -188,8 +187,8 @@ class Point20Great(Burning):
 
     def test_it_is_not_told_from_beat_to_beat(self):
         for house, lights in samples.drawn(20, 2):
-            self.assertEqual(self.lines_run(house, lights),
-                             self.lines_run(*self.stretched(house, lights)))
+            self.assertEqual(samples.lines_run(burning, house, lights),
+                             samples.lines_run(burning, *self.stretched(house, lights)))
 
     def stretched(self, house, lights):
         times = 100000
@@ -197,23 +196,6 @@ class Point20Great(Burning):
         cords = tuple((one, at * times, other, to * times, long * times)
                       for one, at, other, to, long in house[1])
         return (tops, cords), tuple((candle, beat * times) for candle, beat in lights)
-
-    def lines_run(self, house, lights):
-        """Count the lines that Python runs to tell the burning."""
-        lines = []
-
-        def trace(frame, event, argument):
-            if event == "line":
-                lines.append(frame.f_lineno)
-            return trace
-
-        kept = sys.gettrace()
-        sys.settrace(trace)
-        try:
-            burning(house, lights)
-        finally:
-            sys.settrace(kept)
-        return len(lines)
 
 
 class AgainstTheSlowOne(unittest.TestCase):
@@ -358,6 +340,20 @@ class Point23Heights(unittest.TestCase):
     def test_height_at_the_last_beat(self):
         told = height_at(self.house, self.lights, 0, 1000000000000)
         self.assertEqual(repr(told), "0")
+
+    def test_height_at_is_told_from_ember_to_ember(self):
+        house = ((26, 28, 10, 5, 3, 4, 16),
+                 ((4, 2, 3, 3, 5), (2, 2, 5, 2, 5), (6, 1, 4, 3, 5), (3, 2, 5, 3, 5),
+                  (6, 7, 4, 3, 5), (0, 12, 2, 2, 2), (4, 2, 3, 5, 4), (2, 2, 4, 3, 1),
+                  (0, 2, 3, 4, 2), (3, 2, 2, 10, 4)))
+        lights = ((0, 4), (3, 5), (4, 4), (5, 4), (6, 0))
+        slow = Slow(house, lights).heights
+        for candle in range(7):
+            for beat in (0, 3, 4, 5, 6, 9, 20, 35, 300):
+                told = slow[beat][candle] if beat < len(slow) else 0
+                self.assertEqual(height_at(house, lights, candle, beat), told)
+                # About 700; it was about 5,000 where each catch made all tales anew.
+                self.assertLess(samples.lines_run(height_at, house, lights, candle, beat), 1200)
 
     def test_height_at_refuses_no_beat(self):
         for thing in samples.ANYTHING + (1000000000001,):

@@ -5,72 +5,60 @@ import itertools
 import unittest
 
 import samples
-from stubcords.burning import burning, causes, height_at, is_burning, out_at
-from stubcords.errors import NoBeat, NoCandle, NoHouse, NoLights, StubError
+from interface import FILES, FUNCTIONS, answer, refusal, refused_by, values_for
+from stubcords.burning import burning, is_burning
+from stubcords.errors import NoHouse, NoLights
 from stubcords.houses import are_lights, is_house
-from stubcords.pieces import burnt, last_flame, most_flames, pieces
+from stubcords.left import lots_for
+from stubcords.pieces import pieces
+from stubcords.tops import cut_and_rows, first_beats, shows_beats, shows_cut
 
-# Each function with its arguments' names, in their order.
-FUNCTIONS = (
-    (is_house, ("thing",)),
-    (are_lights, ("house", "thing")),
-    (burning, ("house", "lights")),
-    (is_burning, ("house", "lights", "thing")),
-    (height_at, ("house", "lights", "candle", "beat")),
-    (out_at, ("house", "lights", "candle")),
-    (causes, ("house", "lights", "candle")),
-    (pieces, ("house", "lights")),
-    (burnt, ("house", "lights")),
-    (most_flames, ("house", "lights")),
-    (last_flame, ("house", "lights")),
-)
-REFUSED = {"house": NoHouse, "lights": NoLights, "candle": NoCandle, "beat": NoBeat}
+# Houses that are otherwise than those of the samples, for the places of houses.
+OTHERS = (((3, 2), ((0, 1, 1, 1, 4),)), ((3, 2, 2), ((0, 2, 1, 2, 4), (2, 1, 0, 3, 1))), ((3,), ()))
 
 
-def good(house, lights):
-    """Arguments by their names that nothing refuses."""
-    return {"house": house, "lights": lights, "candle": 0, "beat": 4,
-            "thing": burning(house, lights)}
-
-
-def answer(function, values):
-    """What the function tells, or the class of its refusal."""
-    try:
-        return function(*values)
-    except StubError as refused:
-        return type(refused)
+def told():
+    """Yield what each function tells of each sample."""
+    for house, lights in samples.SAMPLES:
+        for function, names, refusals in FUNCTIONS:
+            yield function(*values_for(function, names, house, lights))
 
 
 class Point2(unittest.TestCase):
     """What this program told may be handed in again, and with parts otherwise."""
 
-    def told(self):
+    def test_questions_of_anything_are_answered_with_a_truth_or_lots(self):
         for house, lights in samples.SAMPLES:
-            for function, names in FUNCTIONS:
-                yield function(*(good(house, lights)[name] for name in names))
-
-    def test_questions_of_anything_are_answered_with_a_truth(self):
-        for house, lights in samples.SAMPLES:
+            top = samples.topped(house)
+            some = lights[:len(house[0]) - 1]
+            dark = [candle for candle in range(7) if candle not in dict(some)][0]
             for thing in samples.ANYTHING + (house, lights, burning(house, lights)):
-                for told in (is_house(thing), are_lights(house, thing),
-                             is_burning(house, lights, thing)):
-                    self.assertIs(type(told), bool)
+                for answered in (is_house(thing), are_lights(house, thing),
+                                 is_burning(house, lights, thing), shows_beats(top, lights, thing),
+                                 shows_cut(top, some, dark, thing)):
+                    self.assertIs(type(answered), bool)
+                self.assertIs(type(lots_for(house, thing)), tuple)
 
     def test_answers_in_each_place(self):
-        house, lights = samples.HOUSE, samples.LIGHTS
-        things = list(self.told())
-        for thing in things:
-            self.assertIs(is_house(thing), False)
-            self.assertIs(type(are_lights(house, thing)), bool)
-            self.assertIs(is_burning(house, lights, thing),
-                          samples.alike(thing, burning(house, lights)))
-            for function, names in FUNCTIONS:
-                for at, name in enumerate(names):
-                    values = [good(house, lights)[known] for known in names]
-                    values[at] = thing
-                    told = answer(function, values)
-                    if isinstance(told, type):
-                        self.assertIs(told, REFUSED[name])
+        things = list({repr(thing): thing for thing in told()}.values())
+        self.assertGreater(len(things), 80)
+        for function, names, refusals in FUNCTIONS:
+            values = values_for(function, names, *samples.TOP)
+            for at in range(len(names)):
+                for thing in things:
+                    handed = values[:at] + [thing] + values[at + 1:]
+                    self.assertIs(refused_by(function, handed), refusal(names, refusals, handed))
+
+    def test_each_answer_is_shown_to_be_itself_alone(self):
+        things = list({repr(thing): thing for thing in told()}.values())
+        for house, lights in samples.SAMPLES[:8]:
+            top = samples.topped(house)
+            some = lights[:len(house[0]) - 1]
+            its = ((is_burning, (house, lights), burning(house, lights)),
+                   (shows_beats, (top, some), first_beats(top, some)))
+            for thing in things:
+                for function, values, right in its:
+                    self.assertIs(function(*values, thing), samples.alike(thing, right))
 
     def test_answers_with_parts_otherwise(self):
         for house, lights in samples.SAMPLES:
@@ -78,86 +66,135 @@ class Point2(unittest.TestCase):
                 self.assertIs(is_burning(house, lights, thing), False)
                 self.assertIs(is_house(thing), False)
 
+    def test_answers_with_parts_otherwise_in_each_place(self):
+        things = [burning(*samples.TOP), first_beats(*samples.TOP), cut_and_rows(*samples.TOP, 2)]
+        for function, names, refusals in FUNCTIONS:
+            values = values_for(function, names, *samples.TOP)
+            for at in range(len(names)):
+                for thing in [values[at]] + things:
+                    for other in samples.variants(thing):
+                        handed = values[:at] + [other] + values[at + 1:]
+                        self.assertIs(refused_by(function, handed),
+                                      refusal(names, refusals, handed), handed)
+
     def test_houses_and_lights_with_parts_otherwise(self):
         for house, lights in samples.SAMPLES[:8]:
             for thing in samples.variants(house):
-                told = answer(burning, (thing, ()))
-                self.assertEqual(told is NoHouse, not is_house(thing))
+                self.assertEqual(refused_by(burning, (thing, ())) is NoHouse, not is_house(thing))
             for thing in samples.variants(lights):
-                told = answer(burning, (house, thing))
-                self.assertEqual(told is NoLights, not are_lights(house, thing))
+                self.assertEqual(refused_by(burning, (house, thing)) is NoLights,
+                                 not are_lights(house, thing))
 
 
 class Point3(unittest.TestCase):
     def test_nothing_that_is_handed_in_is_changed(self):
-        for function, names in FUNCTIONS:
+        for function, names, refusals in FUNCTIONS:
             for at in range(len(names)):
                 for thing in samples.ANYTHING:
-                    values = [good(samples.HOUSE, samples.LIGHTS)[name] for name in names]
+                    values = values_for(function, names, *samples.TOP)
                     values[at] = copy.deepcopy(thing)
                     ahead = copy.deepcopy(values)
                     answer(function, values)
                     self.assertEqual(repr(values), repr(ahead))
 
+    def test_lists_in_what_is_handed_in_are_not_changed(self):
+        for house, lights in samples.SAMPLES:
+            for function, names, refusals in FUNCTIONS:
+                values = values_for(function, names, house, lights)
+                for at, value in enumerate(values):
+                    if isinstance(value, tuple):
+                        handed = values[:at] + [listed(value)] + values[at + 1:]
+                        ahead = copy.deepcopy(handed)
+                        self.assertIs(refused_by(function, handed),
+                                      refusal(names, refusals, handed))
+                        self.assertEqual(repr(handed), repr(ahead))
+
     def test_a_refusal_changes_nothing(self):
-        ahead = burning(samples.HOUSE, samples.LIGHTS)
-        for function, names in FUNCTIONS:
+        ahead = burning(*samples.TOP)
+        for function, names, refusals in FUNCTIONS:
             for thing in samples.ANYTHING:
                 answer(function, [thing] * len(names))
-        self.assertEqual(repr(burning(samples.HOUSE, samples.LIGHTS)), repr(ahead))
+        self.assertEqual(repr(burning(*samples.TOP)), repr(ahead))
 
     def test_the_same_asked_again_has_the_same_answer(self):
-        for house, lights in samples.SAMPLES:
-            rows = []
-            for _ in range(2):
-                rows.append([repr(function(*(good(house, lights)[name] for name in names)))
-                             for function, names in FUNCTIONS])
-            self.assertEqual(rows[0], rows[1])
+        self.assertEqual([repr(thing) for thing in told()], [repr(thing) for thing in told()])
+
+    def test_what_is_asked_between_changes_no_answer(self):
+        for function, names, refusals in FUNCTIONS:
+            rows = [values_for(function, names, *row) for row in samples.SAMPLES]
+            ahead = [repr(function(*values)) for values in rows]
+            behind = [repr(function(*values)) for values in reversed(rows)]
+            self.assertEqual(ahead, behind[::-1])
 
     def test_arguments_by_their_names_in_any_order(self):
-        for house, lights in samples.SAMPLES:
-            for function, names in FUNCTIONS:
-                values = good(house, lights)
-                told = repr(function(*(values[name] for name in names)))
-                for order in itertools.permutations(names):
-                    named = {name: values[name] for name in order}
-                    self.assertEqual(repr(function(**named)), told)
+        for house, lights in samples.SAMPLES + (samples.TOP,):
+            for function, names, refusals in FUNCTIONS:
+                values = values_for(function, names, house, lights)
+                right = repr(function(*values))
+                for order in itertools.permutations(zip(names, values)):
+                    self.assertEqual(repr(function(**dict(order))), right)
+
+    def test_two_houses_by_their_names(self):
+        for function, names, refusals in FUNCTIONS:
+            if names == ("one", "other"):
+                one, other = samples.HOUSE, OTHERS[0]
+                self.assertEqual(function(one, other), function(other=other, one=one))
 
 
 class Point4(unittest.TestCase):
+    # For each name things that are refused, and things that may be.
+    wrong = {
+        "house": (((), ()), None) + OTHERS,
+        "one": (((), ()), 3) + OTHERS,
+        "other": (((), ()), [(3, 2), ()]) + OTHERS,
+        "lights": ([(0, 0)], ((0, 0), (1, 1)), ((2, 0),)),
+        "candle": (2, -1, True, None, 0, 1),
+        "beat": (-1, 10 ** 12 + 1, False),
+        "lot": ((1, 0), (0, 0), (), (1,), (0,), (2,), [0], ((0,),)),
+        "cords": ((1, 0), (0, 0), (7,), (True,), [], None),
+        "thing": (None, ((), ())),
+    }
+
     def test_of_several_refusals_the_first(self):
-        none = {"house": ((), ()), "lights": [(0, 0)], "candle": 2, "beat": -1, "thing": None}
-        for function, names in FUNCTIONS:
-            for marks in itertools.product((False, True), repeat=len(names)):
-                values = good(samples.HOUSE, samples.LIGHTS)
-                values.update((name, none[name]) for name, mark in zip(names, marks) if mark)
-                due = [REFUSED[name] for name, mark in zip(names, marks) if mark and name in REFUSED]
-                told = answer(function, [values[name] for name in names])
-                if due:
-                    self.assertIs(told, due[0], (function.__name__, values))
-                else:
-                    self.assertNotIsInstance(told, type)
+        seen = set()
+        for function, names, refusals in FUNCTIONS:
+            for house, lights in ((samples.HOUSE, samples.LIGHTS), samples.TOP):
+                values = values_for(function, names, house, lights)
+                rows = [(value,) + self.wrong[name] for name, value in zip(names, values)]
+                for handed in itertools.product(*rows):
+                    due = refusal(names, refusals, handed)
+                    self.assertIs(refused_by(function, handed), due, (function.__name__, handed))
+                    seen.add((function, due))
+        for function, names, refusals in FUNCTIONS:
+            for refused in (None,) + refusals:
+                self.assertTrue((function, refused) in seen, (function.__name__, refused))
 
     def test_anything_in_each_place_is_answered_or_refused_by_its_class(self):
-        for function, names in FUNCTIONS:
-            for at, name in enumerate(names):
+        for function, names, refusals in FUNCTIONS:
+            for at in range(len(names)):
                 for thing in samples.ANYTHING:
-                    values = [good(samples.HOUSE, samples.LIGHTS)[known] for known in names]
-                    values[at] = thing
-                    told = answer(function, values)
-                    if isinstance(told, type) and name != "house":
-                        self.assertIs(told, REFUSED[name])
-                    if isinstance(told, type) and name == "house":
-                        # Another house may be one in which these lights are none.
-                        self.assertIs(told, NoHouse if not is_house(thing) else told)
+                    handed = values_for(function, names, *samples.TOP)
+                    handed[at] = thing
+                    self.assertIs(refused_by(function, handed), refusal(names, refusals, handed))
+
+    def test_anything_in_all_places(self):
+        for function, names, refusals in FUNCTIONS:
+            for thing in samples.ANYTHING:
+                handed = [thing] * len(names)
+                self.assertIs(refused_by(function, handed), refusal(names, refusals, handed))
 
 
 class TheInterface(unittest.TestCase):
     def test_each_function_is_defined_in_its_file_with_its_names(self):
-        files = ("houses",) * 2 + ("burning",) * 5 + ("pieces",) * 4
-        for (function, names), file in zip(FUNCTIONS, files):
+        self.assertEqual(len(FILES), len(FUNCTIONS))
+        for (function, names, refusals), file in zip(FUNCTIONS, FILES):
             self.assertEqual(function.__module__, "stubcords." + file)
             self.assertEqual(function.__code__.co_varnames[:function.__code__.co_argcount], names)
+
+
+def listed(thing):
+    """The thing with lists in place of all tuples."""
+    return [listed(part) for part in thing] if isinstance(thing, tuple) else thing
 
 
 if __name__ == "__main__":

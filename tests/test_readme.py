@@ -15,7 +15,7 @@ class Readme(unittest.TestCase):
         names = {}
         exec(code, names)
         shown = re.findall(r"^(\w+\(.*\)) +# (.*?)(?:: .*)?$", code, re.MULTILINE)
-        self.assertGreaterEqual(len(shown), 11)
+        self.assertEqual(len(shown), 29)
         for asked, told in shown:
             self.assertEqual(repr(eval(asked, names)), told, asked)
 

@@ -144,6 +144,26 @@ class Imports(unittest.TestCase):
             else:
                 self.assertLessEqual(names, LIBRARY[node.module], place)
 
+    def test_names_of_the_library_are_only_called(self):
+        for name, tree in trees():
+            known = {alias.name for node in tree.body if isinstance(node, ast.ImportFrom)
+                     and node.module in LIBRARY for alias in node.names}
+            calls = [node for part in tree.body if isinstance(part, (ast.FunctionDef, ast.ClassDef))
+                     for node in ast.walk(part) if isinstance(node, ast.Call)
+                     and isinstance(node.func, ast.Name) and node.func.id in known]
+            uses = [node for node in ast.walk(tree) if isinstance(node, ast.Name) and node.id in known]
+            self.assertEqual(len(calls), len(uses), name)
+            for node in calls:
+                self.assertEqual(node.keywords, [], name)
+
+    def test_products_are_iterated_at_once(self):
+        for name, tree in trees():
+            loops = [node.iter for node in ast.walk(tree) if isinstance(node, (ast.For, ast.comprehension))]
+            for node in ast.walk(tree):
+                if (isinstance(node, ast.Call) and isinstance(node.func, ast.Name)
+                        and node.func.id in ("product", "combinations", "permutations")):
+                    self.assertIn(node, loops, name)
+
     def test_no_circles(self):
         ahead = {}
         for name, tree in trees():
@@ -157,6 +177,18 @@ class Imports(unittest.TestCase):
 
 
 class Statements(unittest.TestCase):
+    def test_sets_stand_in_sorted_or_len_alone(self):
+        for name, tree in trees():
+            inside = [part for node in ast.walk(tree) if isinstance(node, ast.Call)
+                      and isinstance(node.func, ast.Name) and node.func.id in ("sorted", "len")
+                      and not node.keywords for part in node.args]
+            for node in ast.walk(tree):
+                is_set = isinstance(node, (ast.Set, ast.SetComp)) or (
+                    isinstance(node, ast.Call) and isinstance(node.func, ast.Name)
+                    and node.func.id in ("set", "frozenset"))
+                if is_set:
+                    self.assertIn(node, inside, name)
+
     def test_kinds_that_are_not_used(self):
         barred = (ast.Global, ast.AsyncFunctionDef, ast.AsyncFor, ast.AsyncWith, ast.Await, ast.Div,
                   ast.MatMult)

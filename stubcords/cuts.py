@@ -2,7 +2,7 @@
 
 from stubcords.burning import burnt_tales
 from stubcords.errors import NoCords
-from stubcords.houses import need_candle, need_house, need_lights
+from stubcords.houses import has_light, need_candle, need_house, need_lights
 from stubcords.wholes import all_picks, is_pick
 
 
@@ -61,9 +61,8 @@ def dark_by_light(house, lights):
     """Tell the least (lit, candle): with a light at lit this lit candle is dark. Or None."""
     need_lights(house, lights)
     tales = burnt_tales(house, lights)
-    lit_at_first = [lit for lit, beat in lights]
     for lit in range(len(house[0])):
-        if lit not in lit_at_first:
+        if not has_light(lights, lit):
             more = burnt_tales(house, (*lights, (lit, 0)))
             for candle, tale in enumerate(tales):
                 if tale != () and more[candle] == ():

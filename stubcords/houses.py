@@ -1,6 +1,6 @@
 """Houses, the lights in them, and the refusal of what is neither."""
 
-from stubcords.errors import NoCandle, NoHouse, NoLights
+from stubcords.errors import NoBeat, NoCandle, NoHouse, NoLights
 from stubcords.wholes import are_rising, is_from_to
 
 MOST_CANDLES = 7
@@ -68,6 +68,11 @@ def is_light(house, thing):
     return is_candle(house, candle) and is_from_to(beat, 0, GREATEST)
 
 
+def has_light(lights, candle):
+    """Tell whether a candle has one of these lights."""
+    return candle in [lit for lit, beat in lights]
+
+
 def need_house(house):
     """Refuse what is no house."""
     if not is_house(house):
@@ -84,3 +89,9 @@ def need_candle(house, candle):
     """Refuse what is no candle of this house."""
     if not is_candle(house, candle):
         raise NoCandle("the house has no such candle")
+
+
+def need_beat(beat):
+    """Refuse what is no beat of a light, nor so many beats as lights may be later."""
+    if not is_from_to(beat, 0, GREATEST):
+        raise NoBeat("a beat is a whole number from 0 to 1,000,000")

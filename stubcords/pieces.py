@@ -1,11 +1,18 @@
 """What of the candles burns, what falls, and how many flames there are."""
 
-from stubcords.burning import burning, out_of
+from stubcords.burning import burning, burnt_tales, out_of
+from stubcords.houses import need_lights
 
 
 def pieces(house, lights):
     """Tell for each candle its pieces (low, high, word), from below."""
-    tales, catches = burning(house, lights)
+    need_lights(house, lights)
+    return burnt_pieces(house, lights)
+
+
+def burnt_pieces(house, lights):
+    """Make each candle's pieces, of a house and lights that are not refused."""
+    tales = burnt_tales(house, lights)
     return tuple([pieces_of(top, tale) for top, tale in zip(house[0], tales)])
 
 

@@ -3,7 +3,7 @@
 from stubcords.burning import burnt_tales
 from stubcords.cuts import cut_off, darkening, is_lit
 from stubcords.errors import HasLight, NotTops
-from stubcords.houses import need_candle, need_house, need_lights
+from stubcords.houses import has_light, need_candle, need_house, need_lights
 from stubcords.rows import are_apart, is_row, rows_apart
 from stubcords.wholes import is_pick, is_whole_or_none
 
@@ -73,5 +73,5 @@ def need_without_light(house, lights, candle):
     """Refuse what need_tops does, then what is no candle, then one that has a light."""
     need_tops(house, lights)
     need_candle(house, candle)
-    if candle in [lit for lit, beat in lights]:
+    if has_light(lights, candle):
         raise HasLight("the candle has a light")

@@ -33,7 +33,12 @@ def is_pick(thing, many):
 
 def all_picks(many):
     """List all rising tuples of the numbers below many: the fewest first, of as few the least."""
-    return [pick for size in range(many + 1) for pick in combinations(range(many), size)]
+    return picks_of(list(range(many)))
+
+
+def picks_of(numbers):
+    """List all rising tuples of these rising numbers: the fewest first, of as few the least."""
+    return [pick for size in range(len(numbers) + 1) for pick in combinations(numbers, size)]
 
 
 def is_just(thing, told):

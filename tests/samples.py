@@ -75,6 +75,15 @@ def topped(house):
     return tops, tuple((one, at, other, tops[other], long) for one, at, other, to, long in cords)
 
 
+def written(house):
+    """The text of a house, straight from the words of [100]."""
+    tops, cords = house
+    text = ",".join(map(repr, tops))
+    for one, at, other, to, long in cords:
+        text += " " + repr(one) + "@" + repr(at) + ">" + repr(other) + "@" + repr(to) + "+" + repr(long)
+    return text
+
+
 def all_rising(many):
     """All rising tuples of numbers below many, as Python sorts them."""
     rows = [()]

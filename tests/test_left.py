@@ -1,5 +1,6 @@
 """Points 60 and 61: what is left by the lots that were lit in beat 0."""
 
+import itertools
 import unittest
 
 import samples
@@ -11,6 +12,10 @@ from stubcords.pieces import pieces
 # Candle 0 lights candle 1 at its top, so lit with it or without it is left alike.
 ALIKE = ((3, 2, 4), ((0, 2, 1, 2, 4), (1, 1, 2, 3, 1)))
 HELD = ((9, 9, 5), ((0, 8, 1, 3, 1), (1, 5, 2, 5, 1)))
+# As many candles and cords as may be, no cord ending at a top.
+LARGE = ((24, 14, 4, 6, 4, 24, 28), (
+    (3, 3, 5, 16, 2), (6, 2, 5, 1, 3), (0, 4, 2, 2, 4), (2, 1, 2, 1, 2), (6, 8, 5, 23, 2),
+    (1, 6, 5, 11, 4), (2, 3, 0, 14, 3), (3, 5, 6, 12, 1), (0, 4, 6, 3, 1), (0, 18, 2, 3, 4)))
 
 
 def at_once(lot):
@@ -90,6 +95,40 @@ class Point60LotsFor(unittest.TestCase):
                 many.add(len(told))
         self.assertTrue({1, 2, 4} <= many, many)
 
+    def test_against_all_lots_of_top_houses(self):
+        many = set()
+        for house, lights in samples.drawn(60, 65, candles=5):
+            known = left_slowly(samples.topped(house))
+            for right in known.values():
+                told = tuple(sorted(lot for lot in known if known[lot] == right))
+                self.lots(samples.topped(house), right, told)
+                many.add(len(told))
+        self.assertTrue({1, 2, 4, 8} <= many, many)
+
+    def test_rows_of_several_lots_side_by_side(self):
+        for house, lights in list(samples.drawn(40, 66, candles=3)) + [(HELD, ())]:
+            for drawn in (house, samples.topped(house)):
+                known = left_slowly(drawn)
+                columns = [sorted({left[candle] for left in known.values()}) for candle in range(len(house[0]))]
+                for thing in itertools.product(*columns):
+                    self.lots(drawn, thing, tuple(sorted(lot for lot in known if known[lot] == thing)))
+
+    def test_pieces_of_another_house(self):
+        rows = list(samples.drawn(60, 67, candles=3))
+        for (house, _), (other, lights) in zip(rows, rows[1:] + rows[:1]):
+            known = left_slowly(house)
+            for thing in left_slowly(other).values():
+                self.lots(house, thing, tuple(sorted(lot for lot in known if known[lot] == thing)))
+
+    def test_not_all_lots_are_burnt(self):
+        # Some 100,000 lines and more where each of the 128 lots was burnt.
+        for thing in ((), None, pieces(samples.HOUSE, ())):
+            self.assertLess(samples.lines_run(lots_for, LARGE, thing), 500)
+        known = {lot: pieces(LARGE, at_once(lot)) for lot in samples.all_rising(7)}
+        for lot, thing in known.items():
+            self.assertLess(samples.lines_run(lots_for, LARGE, thing), 3000)
+            self.lots(LARGE, thing, tuple(sorted(row for row in known if known[row] == thing)))
+
 
 class Point60Parting(unittest.TestCase):
     def test_none_where_all_is_alike(self):
@@ -104,6 +143,21 @@ class Point60Parting(unittest.TestCase):
     def test_none_of_several_orders_of_cords(self):
         house = samples.SAMPLES[7][0]
         self.assertIs(parting(house, (house[0], house[1][::-1])), None)
+
+    def test_none_where_a_cord_hangs_twice(self):
+        for house, lights in samples.drawn(40, 68, candles=4, most=5):
+            self.assertIs(parting(house, (house[0], house[1] + house[1])), None)
+            self.assertIs(parting((house[0], house[1][::-1] + house[1][:1]), house), None)
+
+    def test_the_same_cords_are_not_burnt(self):
+        # Some 200,000 lines where each of the 128 lots was burnt twice.
+        for cords in (LARGE[1], LARGE[1][::-1], LARGE[1][5:] + LARGE[1][:5]):
+            self.assertIs(parting(LARGE, (LARGE[0], cords)), None)
+            self.assertLess(samples.lines_run(parting, LARGE, (LARGE[0], cords)), 1000)
+
+    def test_the_same_cords_and_other_tops(self):
+        self.assertEqual(parting(LARGE, ((25,) + LARGE[0][1:], LARGE[1])), ())
+        self.assertEqual(parting(((3, 3), ()), ((3, 4), ())), ())
 
     def test_the_lot_of_none_where_tops_are_unlike(self):
         self.assertEqual(repr(parting(((3, 2), ()), ((3, 3), ()))), "()")

@@ -5,12 +5,15 @@ import itertools
 import unittest
 
 import samples
-from interface import FILES, FUNCTIONS, answer, refusal, refused_by, values_for
+from interface import FILES, FUNCTIONS, answer, is_number, refusal, refused_by, values_for
 from stubcords.burning import burning, is_burning
-from stubcords.errors import NoHouse, NoLights
+from stubcords.desk import Desk
+from stubcords.errors import HasLight, NoBeat, NoCandle, NoCord, NoHouse, NoLight, NoLights, NoLine, NoText
 from stubcords.houses import are_lights, is_house
+from stubcords.keeper import Keeper
 from stubcords.left import lots_for
 from stubcords.pieces import pieces
+from stubcords.texts import read_house
 from stubcords.tops import cut_and_rows, first_beats, shows_beats, shows_cut
 
 # Houses that are otherwise than those of the samples, for the places of houses.
@@ -86,6 +89,44 @@ class Point2(unittest.TestCase):
                                  not are_lights(house, thing))
 
 
+class Point2KeepersAndDesks(unittest.TestCase):
+    """What was told, and that with parts otherwise, handed to keepers and desks."""
+
+    def judge(self, thing):
+        self.assertIs(refused_by(Keeper, [thing]), None if is_house(thing) else NoHouse)
+        keeper = Keeper(samples.TOP[0])
+        keeper.light(0, 2)
+        is_candle, is_cord = is_number(thing, 4), is_number(thing, 7)
+        due = (NoLight if thing else None) if is_candle else NoCandle
+        self.assertIs(refused_by(keeper.twin().dark, [thing]), due)
+        self.assertIs(refused_by(keeper.twin().cut, [thing]), None if is_cord else NoCord)
+        due = (None if thing else HasLight) if is_candle else NoCandle
+        self.assertIs(refused_by(keeper.twin().light, [thing, 5]), due)
+        due = None if is_number(thing, 1000001) else NoBeat
+        self.assertIs(refused_by(keeper.twin().light, [1, thing]), due)
+        self.assertIs(keeper == thing, False)
+        self.assertEqual((keeper.house(), keeper.lights(), len(keeper)), (samples.TOP[0], ((0, 2),), 1))
+        if thing not in ("show", "lights", "burnt"):
+            self.assertIs(refused_by(Desk().say, [thing]), NoLine)
+        if isinstance(thing, str):
+            due = None if answer(read_house, [thing]) is not NoText else NoText
+            self.assertIs(refused_by(Desk().say, ["house " + thing]), due)
+
+    def test_what_was_told(self):
+        for thing in list({repr(thing): thing for thing in told()}.values()):
+            self.judge(thing)
+
+    def test_with_parts_otherwise(self):
+        for right in (samples.HOUSE, samples.LIGHTS, burning(*samples.TOP), first_beats(*samples.TOP),
+                      samples.written(samples.HOUSE), 3):
+            for thing in samples.variants(right):
+                self.judge(thing)
+
+    def test_of_anything(self):
+        for thing in samples.ANYTHING:
+            self.judge(thing)
+
+
 class Point3(unittest.TestCase):
     def test_nothing_that_is_handed_in_is_changed(self):
         for function, names, refusals in FUNCTIONS:
@@ -140,12 +181,31 @@ class Point3(unittest.TestCase):
                 one, other = samples.HOUSE, OTHERS[0]
                 self.assertEqual(function(one, other), function(other=other, one=one))
 
+    def test_keepers_and_desks_are_changed_by_their_own_deeds_alone(self):
+        keepers, desks = [Keeper(samples.TOP[0]) for _ in range(3)], [Desk() for _ in range(3)]
+        keepers[0].light(1, 3)
+        keepers[1].cut(2)
+        desks[0].say("light 0 0")
+        desks[1].say("cut 0")
+        ahead = self.standing(keepers, desks)
+        list(told())
+        keepers[2].light(0, 0)
+        keepers[2].undo()
+        desks[2].say("light 1 1")
+        desks[2].say("undo")
+        self.assertEqual(self.standing(keepers, desks), ahead)
+        self.assertEqual(len({repr(row) for row in ahead}), 6)
+
+    def standing(self, keepers, desks):
+        return [(keeper.house(), keeper.lights(), keeper.burning(), len(keeper)) for keeper in keepers] + [
+            (desk.say("show"), desk.say("lights"), desk.say("burnt")) for desk in desks]
+
 
 class Point4(unittest.TestCase):
     # For each name things that are refused, and things that may be.
     wrong = {
         "house": (((), ()), None) + OTHERS,
-        "one": (((), ()), 3) + OTHERS,
+        "one": (((), ()), 3, ((1,) * 6, ())) + OTHERS,
         "other": (((), ()), [(3, 2), ()]) + OTHERS,
         "lights": ([(0, 0)], ((0, 0), (1, 1)), ((2, 0),)),
         "candle": (2, -1, True, None, 0, 1),
@@ -153,6 +213,10 @@ class Point4(unittest.TestCase):
         "lot": ((1, 0), (0, 0), (), (1,), (0,), (2,), [0], ((0,),)),
         "cords": ((1, 0), (0, 0), (7,), (True,), [], None),
         "thing": (None, ((), ())),
+        "by": (-1, 1000000, 1000001, True, None),
+        "times": (0, 1, 1000001, 400000, True),
+        "order": ((0, 1), (0, 0), (0, True), (1, 2, 0), [1, 0], ()),
+        "text": ("", "3", "3,02", "3,2 0@3>1@1+4", None),
     }
 
     def test_of_several_refusals_the_first(self):

@@ -5,6 +5,7 @@ import re
 import unittest
 
 ROOT = os.path.dirname(os.path.dirname(os.path.abspath(__file__)))
+SHOWN = 49
 
 
 class Readme(unittest.TestCase):
@@ -13,11 +14,15 @@ class Readme(unittest.TestCase):
             text = opened.read()
         code = re.search(r"```python\n(.*?)```", text, re.DOTALL).group(1)
         names = {}
-        exec(code, names)
-        shown = re.findall(r"^(\w+\(.*\)) +# (.*?)(?:: .*)?$", code, re.MULTILINE)
-        self.assertEqual(len(shown), 29)
-        for asked, told in shown:
-            self.assertEqual(repr(eval(asked, names)), told, asked)
+        shown = 0
+        for line in code.splitlines():
+            asked = re.fullmatch(r"([\w.]+\(.*\)) +# (.*?)(?:: .*)?", line)
+            if asked:
+                shown += 1
+                self.assertEqual(repr(eval(asked.group(1), names)), asked.group(2), line)
+            else:
+                exec(line, names)
+        self.assertEqual(shown, SHOWN)
 
 
 if __name__ == "__main__":

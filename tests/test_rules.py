@@ -248,6 +248,19 @@ class Statements(unittest.TestCase):
             if isinstance(node.func, ast.Attribute):
                 self.assertIn(node.func.attr, known, place)
 
+    def test_a_table_of_functions_is_read_by_a_name_of_its_own(self):
+        for place, node in nodes(ast.Call):
+            self.assertIsInstance(node.func, (ast.Name, ast.Attribute), place)
+
+    def test_tables_at_module_level_hold_no_lists_and_no_dicts(self):
+        for name, tree in trees():
+            for node in tree.body:
+                if isinstance(node, ast.Assign):
+                    self.assertEqual(len(node.targets), 1, name)
+                    inside = [part for part in ast.walk(node.value) if part is not node.value]
+                    for part in inside:
+                        self.assertNotIsInstance(part, (ast.List, ast.Dict, ast.Set, ast.Call), name)
+
     def test_no_decorators_but_those_over_methods(self):
         for place, node in nodes(ast.ClassDef):
             self.assertEqual(node.decorator_list, [], place)
@@ -255,6 +268,72 @@ class Statements(unittest.TestCase):
             for node in tree.body:
                 if isinstance(node, ast.FunctionDef):
                     self.assertEqual(node.decorator_list, [], name)
+
+
+class Classes(unittest.TestCase):
+    def rows(self):
+        """Each class that is no error class, with its place and its methods by their names."""
+        for place, node in nodes(ast.ClassDef):
+            if not node.bases:
+                yield place, node, {part.name: part for part in node.body
+                                    if isinstance(part, ast.FunctionDef)}
+
+    def assigned(self, tree):
+        return {node.attr for node in ast.walk(tree)
+                if isinstance(node, ast.Attribute) and isinstance(node.ctx, ast.Store)}
+
+    def test_only_methods_each_once_without_decorators(self):
+        for place, node, methods in self.rows():
+            parts = [part for part in node.body if not isinstance(part, ast.Expr)]
+            self.assertEqual(len(parts), len(methods), place)
+            for name, method in methods.items():
+                self.assertEqual(method.decorator_list, [], place)
+                self.assertTrue(not name.startswith("__") or name in DOUBLE, place)
+                self.assertFalse(any(hasattr(kind, name) for kind in (str, int, list, dict, set, bytes))
+                                 and name not in DOUBLE, place)
+
+    def test_no_name_is_a_method_and_an_attribute(self):
+        for place, node, methods in self.rows():
+            for name in self.assigned(node):
+                self.assertNotIn(name, methods, place)
+                self.assertFalse(any(hasattr(kind, name) for kind in (str, int, list, dict, set, bytes)), place)
+
+    def test_attributes_that_are_read_are_assigned(self):
+        known = set().union(*[self.assigned(tree) for name, tree in trees()])
+        for name, tree in trees():
+            called = {id(node.func) for node in ast.walk(tree) if isinstance(node, ast.Call)}
+            for node in ast.walk(tree):
+                if isinstance(node, ast.Attribute) and isinstance(node.ctx, ast.Load) and id(node) not in called:
+                    self.assertIn(node.attr, known, name)
+
+    def test_attributes_are_assigned_through_local_names(self):
+        for name, tree in trees():
+            at_the_top = {part.name for part in tree.body if hasattr(part, "name")}
+            for node in ast.walk(tree):
+                if isinstance(node, ast.Attribute) and isinstance(node.ctx, ast.Store):
+                    self.assertIsInstance(node.value, ast.Name, name)
+                    self.assertNotIn(node.value.id, at_the_top, name)
+
+    def test_forms_of_len_eq_and_repr(self):
+        for place, node, methods in self.rows():
+            for name in {"__len__", "__eq__", "__repr__"} & set(methods):
+                rows = methods[name].body
+                self.assertIsInstance(rows[-1], ast.Return, place)
+                self.assertEqual(len(rows), 1, place)
+                told = rows[0].value
+                if name == "__len__":
+                    self.assertEqual(told.func.id, "len", place)
+                elif name == "__repr__":
+                    self.assertIsInstance(told, ast.JoinedStr, place)
+                else:
+                    self.assertEqual(ast.unparse(told.values[0]), f"isinstance(other, {node.name})", place)
+
+    def test_errors_are_made_where_they_are_raised(self):
+        known = {node.name for _, node in nodes(ast.ClassDef)}
+        for place, node in nodes(ast.Raise):
+            self.assertIsInstance(node.exc, ast.Call, place)
+            self.assertIn(node.exc.func.id, known, place)
+            self.assertEqual(node.exc.keywords, [], place)
 
 
 if __name__ == "__main__":

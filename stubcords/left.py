@@ -17,7 +17,7 @@ def lots_for(house, thing):
 
 
 def lots_to_try(house, rows):
-    """List lots, among them all whose pieces these rows are, were there one for each candle."""
+    """List the lots that might leave these rows, one row for each candle: no other lot does."""
     # A candle of the lot burns from its top. Another one does so only by an
     # ember that comes there, so most candles are seen to be of the lot or not.
     down = [candle for candle, row in enumerate(rows) if burns_from(house[0][candle], row)]
